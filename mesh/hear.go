@@ -113,6 +113,7 @@ func (n *Node) hearReply(a *act, from uint32, p api.Packet) {
 	case err == api.ErrFull:
 		a.drop(api.NoRoom)
 	case p.From == n.self:
+		n.sendWaiting(a, p.Dest)
 		if err == api.ErrOld {
 			a.drop(api.Stale)
 		}

@@ -1,6 +1,7 @@
 package mesh_test
 
 import (
+	"cmp"
 	"math"
 	"math/rand"
 	"reflect"
@@ -17,13 +18,32 @@ type plainSeen struct {
 	until    uint64
 }
 
-// plainNode does what P13 to P19 say, with lists that are gone through each time, so that a Node is held against something that is not of its making.
+// plainSearch is a search of a plainNode.
+type plainSearch struct {
+	dest  uint32
+	texts []string
+	at    uint64 // its time
+	set   int    // when that was set: behind so many others
+	step  int    // what is to be done then
+}
+
+// plainSteps are the requests of a search, each with its TTL and the time to wait; behind them it ends.
+var plainSteps = []struct {
+	ttl  int
+	wait uint64
+}{{1, 240}, {3, 400}, {5, 560}, {8, 800}, {8, 1600}, {8, 3200}}
+
+// plainNode does what P13 to P22 say, with lists that are gone through each time, so that a Node is held against something that is not of its making.
 type plainNode struct {
 	self, seq uint32
 	silent    uint64
 	table     *plainRoutes
 	seen      []plainSeen  // in the order in which they came
 	journal   []api.Record // what stands in it
+	searches  []plainSearch
+	sets      int      // of the times of searches
+	asked     []uint64 // when its own requests went out
+	sent      uint32   // data of its own
 
 	now     uint64
 	records []api.Record // of this call
@@ -211,9 +231,13 @@ func (p *plainNode) reply(from uint32, x api.Packet) {
 	switch {
 	case err == api.ErrFull:
 		p.drop(api.NoRoom)
-	case x.From == p.self && err == api.ErrOld:
-		p.drop(api.Stale)
 	case x.From == p.self:
+		if i := p.search(x.Dest); i >= 0 {
+			p.release(i)
+		}
+		if err == api.ErrOld {
+			p.drop(api.Stale)
+		}
 	case x.TTL == 1:
 		p.drop(api.NoTTL)
 	case !way:
@@ -260,6 +284,122 @@ func (p *plainNode) data(from uint32, x api.Packet) {
 		}
 		p.send(from, lose(api.Lost{Dest: x.Dest, Seq: p.seqOf(x.Dest)}))
 	}
+}
+
+func (p *plainNode) search(dest uint32) int {
+	return slices.IndexFunc(p.searches, func(s plainSearch) bool { return s.dest == dest })
+}
+
+// carry sends a text of its own, if there is a route.
+func (p *plainNode) carry(dest uint32, text string) bool {
+	to, found := p.table.Find(dest, p.now)
+	if found {
+		p.sent++
+		p.send(to.Next, data(8, p.sent, p.self, dest, text))
+		p.table.Use(dest, p.now+3000)
+	}
+	return found
+}
+
+// release sends what waits for the destination of search i, if there is a route; the search ends then.
+func (p *plainNode) release(i int) bool {
+	s := p.searches[i]
+	if !p.carry(s.dest, s.texts[0]) {
+		return false
+	}
+	for _, text := range s.texts[1:] {
+		p.carry(s.dest, text)
+	}
+	p.searches = slices.Delete(p.searches, i, i+1)
+	return true
+}
+
+func (p *plainNode) Send(now uint64, dest uint32, text string) (api.Out, api.Errno) {
+	if len(text) > 16 {
+		return api.Out{}, api.ErrLong
+	}
+	if dest == p.self || dest == 0 {
+		return api.Out{}, api.ErrOwn
+	}
+	p.begin(now)
+	if p.carry(dest, text) {
+		return p.end(), api.OK
+	}
+	i := p.search(dest)
+	if i < 0 {
+		p.searches = append(p.searches, plainSearch{dest: dest, texts: []string{text}})
+		p.ask(len(p.searches) - 1)
+		return p.end(), api.OK
+	}
+	s := &p.searches[i]
+	s.texts = append(s.texts, text)
+	if len(s.texts) > 4 {
+		s.texts = s.texts[1:]
+		p.drop(api.Overflow)
+	}
+	return p.end(), api.OK
+}
+
+// ask does the step of search i.
+func (p *plainNode) ask(i int) {
+	s := &p.searches[i]
+	p.sets++
+	s.set = p.sets
+	many := 0
+	for _, at := range p.asked {
+		if p.now < 1000 || at > p.now-1000 {
+			many++
+		}
+	}
+	s.at = p.now + 1000
+	if many >= 5 {
+		p.drop(api.TooMany)
+		return
+	}
+	if p.now < p.silent {
+		p.drop(api.Silent)
+		return
+	}
+	if p.seq < math.MaxUint32 {
+		p.seq++
+	}
+	p.write()
+	p.asked = append(p.asked, p.now)
+	x := request(plainSteps[s.step].ttl, 0, uint32(len(p.asked)), s.dest, unknown, p.self, p.seq)
+	if line := p.table.line(s.dest); line != nil {
+		x.Unknown, x.DestSeq = false, line.Seq
+	}
+	p.remember(x)
+	p.send(0, x)
+	s.at = p.now + plainSteps[s.step].wait
+	s.step++
+}
+
+func (p *plainNode) Tick(now uint64) api.Out {
+	p.begin(now)
+	var due []plainSearch
+	for _, s := range p.searches {
+		if s.at <= now {
+			due = append(due, s)
+		}
+	}
+	slices.SortFunc(due, func(a, b plainSearch) int {
+		return cmp.Or(cmp.Compare(a.at, b.at), cmp.Compare(a.set, b.set))
+	})
+	for _, s := range due {
+		i := p.search(s.dest)
+		switch {
+		case p.release(i):
+		case s.step < len(plainSteps):
+			p.ask(i)
+		default:
+			for range s.texts {
+				p.drop(api.NotFound)
+			}
+			p.searches = slices.Delete(p.searches, i, i+1)
+		}
+	}
+	return p.end()
 }
 
 // bothNodes are a Node and a plainNode, with the journal that one keeps who does what they say.
@@ -352,24 +492,34 @@ func packetOf(b []byte) api.Packet {
 // call has both nodes do one call, of the numbers that the bytes stand for.
 func (b *bothNodes) call(t *testing.T, c []byte) {
 	t.Helper()
-	b.now += []uint64{0, 0, 0, 1, 1, 40, 300, 999, 1280, 2000, 3000, 6000}[c[1]%12]
+	b.now += []uint64{0, 0, 0, 1, 1, 40, 240, 300, 800, 999, 1280, 2000, 3000, 6000}[c[1]%14]
 	from := uint32(int8(c[2]))
 	was := b.node.Routes()
 	switch {
-	case c[0] < 200:
+	case c[0] < 120:
 		frame, _ := mesh.Encode(packetOf(c[3:])) // of what is no packet: no bytes
 		b.keep(t, b.node.Receive(b.now, from, frame), b.plain.Receive(b.now, from, frame))
+	case c[0] < 160:
+		text := "up to twenty letters"[:(c[3]^c[4])%20]
+		out, err := b.node.Send(b.now, from, text)
+		want, wantErr := b.plain.Send(b.now, from, text)
+		if err != wantErr {
+			t.Fatalf("Send(%d, %d, %q): %d, want %d", b.now, from, text, err, wantErr)
+		}
+		b.keep(t, out, want)
+	case c[0] < 210:
+		b.keep(t, b.node.Tick(b.now), b.plain.Tick(b.now))
 	case c[0] < 235:
 		b.keep(t, b.node.Broken(b.now, from), b.plain.Broken(b.now, from))
 	case c[0] < 245:
 		b.keep(t, b.node.Receive(b.now, from, c), b.plain.Receive(b.now, from, c))
-	case c[0] < 250:
+	case c[0] < 248:
 		b.journal = b.journal[:max(0, len(b.journal)-int(c[3]%4)/3)] // torn, now and then
 		b.boot(t)
 		return
 	default:
 		b.now = uint64(int8(c[3])) // anywhere, back too
-		b.keep(t, b.node.Broken(b.now, from), b.plain.Broken(b.now, from))
+		b.keep(t, b.node.Tick(b.now), b.plain.Tick(b.now))
 	}
 	b.wantNoLess(t, was)
 }
@@ -384,7 +534,7 @@ func nodesRun(t *testing.T, self uint8, journal, calls []byte) {
 	}
 }
 
-// P13 to P19: many calls, one behind the other.
+// P13 to P22: many calls, one behind the other.
 func TestNodesMany(t *testing.T) {
 	random := rand.New(rand.NewSource(7))
 	for range 400 {
@@ -395,7 +545,7 @@ func TestNodesMany(t *testing.T) {
 			case 0:
 				calls[i] = byte(random.Intn(249))
 			case 1:
-				calls[i] = byte(random.Intn(7 + random.Intn(6)))
+				calls[i] = byte(random.Intn(7 + random.Intn(8)))
 			case 4:
 				calls[i] = byte(1 + random.Intn(9))
 			default:
@@ -416,10 +566,35 @@ func TestNodesMany(t *testing.T) {
 	}
 }
 
-// P1, P13 to P19: any journal and any calls at all. (go test -fuzz FuzzNodes ./mesh)
+// P1, P13 to P22: any journal and any calls at all. (go test -fuzz FuzzNodes ./mesh)
 func FuzzNodes(f *testing.F) {
-	f.Add(uint8(5), []byte{}, []byte{0, 0, 7, 0, 3, 1, 0, 1, 8, 3, 9, 0, 0, 2, 1, 8, 3, 6, 8, 3, 4, 0, 0, 0, 7, 3, 8, 0, 0, 1, 8, 3, 2, 0, 201, 3, 2, 0, 0, 0, 0, 0, 0, 0, 0})
-	f.Add(uint8(5), []byte("no record"), []byte{0, 2, 7, 3, 3, 0, 0, 1, 8, 3, 9, 246, 1, 1, 3, 0, 0, 0, 0, 0, 0, 0, 255, 255, 255, 255, 255, 255, 255, 255, 255, 255, 255})
-	f.Add(uint8(1), written(api.Record{Own: true, Seq: 1<<32 - 1}, api.Record{Addr: 2, Seq: 1<<32 - 1}), []byte{0, 9, 7, 0, 3, 1, 1, 1, 1, 2, 255, 0, 0, 7, 2, 0, 7, 2, 255, 0, 0, 0, 250, 0, 0, 200, 0, 0, 0, 0, 0, 0, 0})
+	f.Add(uint8(5), []byte{}, slices.Concat(
+		[]byte{0, 0, 7, 0, 3, 1, 0, 1, 8, 3, 9}, // a request of 3 for 8
+		[]byte{0, 0, 2, 1, 8, 3, 6, 8, 3, 4, 0}, // its reply
+		[]byte{0, 0, 7, 3, 8, 0, 0, 1, 8, 3, 2}, // data of 3 for 8
+		[]byte{210, 3, 2, 0, 0, 0, 0, 0, 0, 0, 0},
+	))
+	f.Add(uint8(5), []byte{}, slices.Concat(
+		[]byte{120, 0, 9, 3, 0, 0, 0, 0, 0, 0, 0},
+		[]byte{160, 6, 0, 0, 0, 0, 0, 0, 0, 0, 0},
+		[]byte{0, 5, 2, 1, 8, 3, 6, 9, 5, 4, 0}, // a reply for 5
+		[]byte{120, 0, 9, 5, 0, 0, 0, 0, 0, 0, 0},
+		[]byte{160, 13, 0, 0, 0, 0, 0, 0, 0, 0, 0},
+	))
+	f.Add(uint8(5), []byte("no record"), slices.Concat(
+		[]byte{0, 2, 7, 3, 3, 0, 0, 1, 8, 3, 9},
+		[]byte{120, 2, 9, 3, 0, 0, 0, 0, 0, 0, 0},
+		[]byte{160, 9, 0, 0, 0, 0, 0, 0, 0, 0, 0},
+		[]byte{246, 1, 1, 3, 0, 0, 0, 0, 0, 0, 0},
+		[]byte{255, 255, 255, 255, 255, 255, 255, 255, 255, 255, 255},
+		[]byte{120, 0, 9, 3, 0, 0, 0, 0, 0, 0, 0},
+		[]byte{160, 0, 0, 0, 0, 0, 0, 0, 0, 0, 0},
+	))
+	f.Add(uint8(1), written(api.Record{Own: true, Seq: 1<<32 - 1}, api.Record{Addr: 2, Seq: 1<<32 - 1}), slices.Concat(
+		[]byte{0, 11, 7, 0, 3, 1, 1, 1, 1, 2, 255},
+		[]byte{0, 0, 7, 2, 0, 7, 2, 255, 0, 0, 0},
+		[]byte{120, 0, 2, 3, 0, 0, 0, 0, 0, 0, 0},
+		[]byte{250, 0, 0, 200, 0, 0, 0, 0, 0, 0, 0},
+	))
 	f.Fuzz(nodesRun)
 }
